@@ -21,7 +21,8 @@ class Sieve:
         """Let a row in, and tell its number."""
         number = self.came
         if number >= MOST_ROWS or not is_row(self.kinds, row):
-            raise BadRows(number)
+            # The place is where a row stands in what is handed in, and that is one row.
+            raise BadRows(0)
         told = (number, row)
         heappush(self.queue, (rank(self.order, told), told))
         self.came += 1

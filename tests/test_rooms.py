@@ -123,14 +123,18 @@ class Refusals(unittest.TestCase):
                 self.assertEqual(sieve.remains(), 2)
                 self.assertEqual([sieve.take(), sieve.take()], [(1, (4, "e")), (0, (5, "e"))])
 
-    def test_the_place_is_the_number_that_the_row_would_have(self):
+    def test_the_place_is_that_of_the_one_row_that_is_handed_in(self):
         sieve = Sieve(KINDS, ORDER)
-        for row in GOOD_ROWS:
-            sieve.put(row)
+        for came, row in enumerate(GOOD_ROWS):
+            with self.subTest(came=came), self.assertRaises(BadRows) as caught:
+                sieve.put((1, "A"))
+            self.assertEqual(caught.exception.place, 0)
+            self.assertEqual(sieve.put(row), came)
         sieve.take()
         with self.assertRaises(BadRows) as caught:
             sieve.put((1, "A"))
-        self.assertEqual(caught.exception.place, len(GOOD_ROWS))
+        self.assertEqual(caught.exception.place, 0)
+        self.assertEqual(sieve.remains(), len(GOOD_ROWS) - 1)
 
     def test_a_hundred_and_twenty_rows_come_and_no_more(self):
         rows = rows_of(KINDS, 120, 8)
@@ -139,7 +143,7 @@ class Refusals(unittest.TestCase):
         for _ in range(2):
             with self.assertRaises(BadRows) as caught:
                 sieve.put((1, "a"))
-            self.assertEqual(caught.exception.place, 120)
+            self.assertEqual(caught.exception.place, 0)
         self.assertEqual(sieve.remains(), 120)
         self.assertEqual([sieve.take() for _ in rows], in_order(ORDER, list(enumerate(rows))))
 
