@@ -1,8 +1,7 @@
 """Runs: rows that are in order, made of all that come through a room of few."""
 
-from heapq import heapify, heappop, heappush
-
 from runsorts.errors import BadRoom
+from runsorts.exchange import Exchange
 from runsorts.orders import MOST_ROWS, check_kinds, check_order, check_rows, is_number, rank
 
 MOST_ROOM = 24
@@ -33,27 +32,18 @@ def filled(kinds, order, size, rows):
 def exchanged(kinds, order, size, rows):
     """Tell the runs that come of letting the next row in for each one that goes out."""
     coming = numbered(kinds, order, size, rows)
-    room, coming = coming[:size], coming[size:]
+    room, came = Exchange(order), 0
+    while came < len(coming) and came < size:
+        room.let_in(coming[came])
+        came += 1
     runs = []
-    while room:
-        run, room, coming = one_run(order, room, coming)
+    while room.holds() > 0:
+        run = []
+        while not room.is_over():
+            run.append(room.let_out())
+            if came < len(coming):
+                room.let_in(coming[came])
+                came += 1
         runs.append(run)
+        room.begin_next()
     return runs
-
-
-def one_run(order, room, coming):
-    """Tell one run, the rows that are in the room behind it, and those that are still to come."""
-    going = [(rank(order, told), told) for told in room]
-    heapify(going)
-    run, waiting, came = [], [], 0
-    while going:
-        last, told = heappop(going)
-        run.append(told)
-        if came < len(coming):
-            entry = coming[came]
-            came += 1
-            if rank(order, entry) < last:
-                waiting.append(entry)
-            else:
-                heappush(going, (rank(order, entry), entry))
-    return run, waiting, coming[came:]

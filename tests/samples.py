@@ -75,6 +75,26 @@ def in_order(order, told):
     return sorted(told, key=cmp_to_key(lambda one, other: -1 if is_ahead(order, one, other) else 1))
 
 
+def plainly_exchanged(order, size, rows):
+    """Deed by deed as the document says it."""
+    coming = list(enumerate(rows))
+    room = [coming.pop(0) for _ in range(min(size, len(coming)))]
+    runs = []
+    while room:
+        run = []
+        while True:
+            may = [told for told in room if not run or not is_ahead(order, told, run[-1])]
+            if not may:
+                break
+            out = in_order(order, may)[0]
+            run.append(out)
+            room.remove(out)
+            if coming:
+                room.append(coming.pop(0))
+        runs.append(run)
+    return runs
+
+
 def cut(told, many):
     """Tell lists of (number, row), as many of them as are asked for, dealt out in turn."""
     return [told[at::many] for at in range(many)]

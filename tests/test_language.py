@@ -1,6 +1,7 @@
 """The files of the package keep to the rules of its language that are plain to see: their form, imports and names."""
 
 import ast
+import builtins
 import pathlib
 import unittest
 
@@ -54,6 +55,52 @@ class Language(unittest.TestCase):
                     self.assertNotIsInstance(node.value, (float, complex))
                 if isinstance(node, ast.Constant) and isinstance(node.value, str):
                     self.assertNotIn("%", node.value)
+
+    def test_no_name_is_that_of_a_builtin_or_of_an_import(self):
+        for file in FILES:
+            tree = ast.parse(file.read_text(encoding="utf-8"))
+            taken = set(dir(builtins))
+            for node in tree.body:
+                if isinstance(node, ast.ImportFrom):
+                    taken |= {alias.name for alias in node.names}
+                if isinstance(node, (ast.ClassDef, ast.FunctionDef)):
+                    taken.add(node.name)
+            for node in ast.walk(tree):
+                with self.subTest(file=file.name, line=getattr(node, "lineno", 0)):
+                    if isinstance(node, ast.Name) and isinstance(node.ctx, ast.Store):
+                        self.assertNotIn(node.id, taken)
+                    if isinstance(node, ast.arg):
+                        self.assertNotIn(node.arg, taken)
+
+    def test_no_name_is_a_method_and_an_attribute(self):
+        methods, attributes = set(), set()
+        for _, node in nodes():
+            if isinstance(node, ast.ClassDef):
+                methods |= {part.name for part in node.body if isinstance(part, ast.FunctionDef)}
+            if isinstance(node, ast.Attribute) and isinstance(node.ctx, ast.Store):
+                attributes.add(node.attr)
+                self.assertIsInstance(node.value, ast.Name)
+        self.assertEqual(methods & attributes, set())
+        builtin = {name for kind in (str, int, bytes, list, tuple, dict, set) for name in dir(kind)}
+        self.assertEqual((methods | attributes) & builtin, {"__init__"})
+
+    def test_what_is_stays_with_none(self):
+        for file, node in nodes():
+            if isinstance(node, ast.Compare) and any(isinstance(sign, (ast.Is, ast.IsNot)) for sign in node.ops):
+                with self.subTest(file=file.name, line=node.lineno):
+                    for other in node.comparators:
+                        self.assertIsInstance(other, ast.Constant)
+
+    def test_no_two_files_import_from_each_other(self):
+        imports = {file.stem: set() for file in FILES}
+        for file, node in nodes():
+            if isinstance(node, ast.ImportFrom) and node.module.startswith("runsorts."):
+                imports[file.stem].add(node.module.split(".")[1])
+        while imports:
+            free = [name for name in imports if not imports[name] & set(imports)]
+            self.assertTrue(free, imports)
+            for name in free:
+                del imports[name]
 
 
 def nodes():

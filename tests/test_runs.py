@@ -5,7 +5,7 @@ import unittest
 
 from runsorts.errors import BadOrder, BadRoom, BadRows
 from runsorts.runs import exchanged, filled
-from samples import EVERY_KINDS, KINDS, ORDER, in_order, is_ahead, orders_of, rows_of
+from samples import EVERY_KINDS, KINDS, ORDER, in_order, orders_of, plainly_exchanged, rows_of
 
 SIZES = [1, 2, 3, 5, 8, 23, 24]
 NUMBER = ("number",)
@@ -15,26 +15,6 @@ UP = [(0, "up")]
 def plainly_filled(order, size, rows):
     told = list(enumerate(rows))
     return [in_order(order, told[at:at + size]) for at in range(0, len(told), size)]
-
-
-def plainly_exchanged(order, size, rows):
-    """Deed by deed as the document says it."""
-    coming = list(enumerate(rows))
-    room = [coming.pop(0) for _ in range(min(size, len(coming)))]
-    runs = []
-    while room:
-        run = []
-        while True:
-            may = [told for told in room if not run or not is_ahead(order, told, run[-1])]
-            if not may:
-                break
-            out = in_order(order, may)[0]
-            run.append(out)
-            room.remove(out)
-            if coming:
-                room.append(coming.pop(0))
-        runs.append(run)
-    return runs
 
 
 def of_numbers(make, size, numbers):
